@@ -48,6 +48,17 @@ func TestOwnPropertyOfAClass(t *testing.T) {
 	}
 }
 
+// Chapter 9: what an object does not tell as its own is not taken away either.
+func TestDeleteOfWhatIsNotTold(t *testing.T) {
+	h, _ := heap.New(1, 100, 9)
+	o := addShy(t, h, api.CString, api.Desc{})
+	define(t, h, o, str("b"), all(num(1)))
+	ok, err := h.Delete(o, str("b"))
+	if s, _ := h.Shape(o); !ok || err != nil || len(s.Props) != 1 {
+		t.Errorf("%v, %v, %v", ok, err, s)
+	}
+}
+
 // What throws in the midst of a method comes out of it, beside zero values.
 func TestOwnPropertyThrows(t *testing.T) {
 	h, _ := heap.New(5, 100, 9)

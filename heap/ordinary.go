@@ -145,7 +145,10 @@ func (Ordinary) Delete(h *Heap, o int, k api.Key) (bool, error) {
 	if err != nil {
 		return false, err
 	}
-	if ok && d.Configurable == api.No {
+	if !ok {
+		return true, nil
+	}
+	if d.Configurable == api.No {
 		return false, nil
 	}
 	h.at(o).props.Delete(k)
