@@ -98,18 +98,18 @@ func (h *Heap) OwnPropertyKeys(o int) ([]api.Key, error) {
 	return h.enterOwnPropertyKeys(o)
 }
 
-// Call calls a function. That f can be called is asked last of all, by enterCall.
+// Call calls a function. That f can be called is asked last of all, by EnterCall.
 func (h *Heap) Call(f int, this api.Value, args []api.Value) (api.Value, error) {
 	if e := cmp.Or(h.there(f), sound(this), sound(args...), h.known(this), h.known(args...), short(args)); e != api.OK {
 		return api.Value{}, e
 	}
-	return h.enterCall(f, this, args)
+	return h.EnterCall(f, this, args)
 }
 
-// Construct constructs by a function. That f can be constructed is asked last of all, by enterConstruct.
+// Construct constructs by a function. That f can be constructed is asked last of all, by EnterConstruct.
 func (h *Heap) Construct(f int, args []api.Value, target int) (int, error) {
 	if e := cmp.Or(h.there(f), h.there(target), sound(args...), h.known(args...), short(args), h.constructor(target)); e != api.OK {
 		return 0, e
 	}
-	return h.enterConstruct(f, args, target)
+	return h.EnterConstruct(f, args, target)
 }

@@ -2,7 +2,7 @@ package heap
 
 import "cameo/api"
 
-// The thirteen, as algorithms enter them: what they are given is of the heap, because it was when the algorithm began.
+// The thirteen, as algorithms enter them: what they are given is of the heap, because it was when the algorithm began. Two of them other layers' methods enter, too, which may have more arguments to hand on than the door lets in.
 
 // enter spends the fuel for one method of an object, and goes one deeper until leave; what comes of the object is what it does.
 func (h *Heap) enter(o int) (Methods, api.Errno) {
@@ -118,8 +118,8 @@ func (h *Heap) enterOwnPropertyKeys(o int) ([]api.Key, error) {
 	return m.OwnPropertyKeys(h, o)
 }
 
-// enterCall enters Call of what can be called, and refuses all else, ahead of entering it.
-func (h *Heap) enterCall(f int, this api.Value, args []api.Value) (api.Value, error) {
+// EnterCall enters Call of what can be called, and refuses all else, ahead of entering it.
+func (h *Heap) EnterCall(f int, this api.Value, args []api.Value) (api.Value, error) {
 	c, e := h.caller(f)
 	if e != api.OK {
 		return api.Value{}, e
@@ -131,8 +131,8 @@ func (h *Heap) enterCall(f int, this api.Value, args []api.Value) (api.Value, er
 	return c.Call(h, f, this, args)
 }
 
-// enterConstruct enters Construct of what can be constructed, and refuses all else, ahead of entering it.
-func (h *Heap) enterConstruct(f int, args []api.Value, target int) (int, error) {
+// EnterConstruct enters Construct of what can be constructed, and refuses all else, ahead of entering it.
+func (h *Heap) EnterConstruct(f int, args []api.Value, target int) (int, error) {
 	b, e := h.builder(f)
 	if e != api.OK {
 		return 0, e

@@ -142,3 +142,65 @@ func TestFuelFalls(t *testing.T) {
 		}
 	}
 }
+
+// Methods of other layers hand on as many arguments as they have: what they enter costs a unit, and is one deeper, as all that is entered.
+func TestEnteredWithManyArguments(t *testing.T) {
+	h, _ := heap.New(3, 10, 1)
+	made(t, h, null())
+	var seen []api.Value
+	echo := func(d door, f int, this api.Value, args []api.Value) (api.Value, error) {
+		seen = args
+		return this, nil
+	}
+	f, c := addTo(h, echo, false), addTo(h, echo, true)
+	for _, n := range []int{0, 1, api.MaxArgs, api.MaxArgs + 1, 5000} {
+		args := make([]api.Value, n)
+		for i := range args {
+			args[i] = num(float64(i))
+		}
+		h.Refuel(2)
+		if v, err := h.EnterCall(f, ref(1), args); v != ref(1) || err != nil || len(seen) != n || h.Fuel() != 1 {
+			t.Errorf("EnterCall of %d: %v, %v, %d args, %d left", n, v, err, len(seen), h.Fuel())
+		}
+		if o, err := h.EnterConstruct(c, args, c); o != c || err != nil || len(seen) != n || h.Fuel() != 0 {
+			t.Errorf("EnterConstruct of %d: %v, %v, %d args, %d left", n, o, err, len(seen), h.Fuel())
+		}
+		if v, err := h.EnterCall(f, ref(1), args); v != (api.Value{}) || err != api.ErrFuel {
+			t.Errorf("EnterCall without fuel: %v, %v", v, err)
+		}
+		if o, err := h.EnterConstruct(c, args, c); o != 0 || err != api.ErrFuel {
+			t.Errorf("EnterConstruct without fuel: %v, %v", o, err)
+		}
+	}
+	h.Refuel(10)
+	for _, o := range []int{1, 0, -1, 4, 1 << 40} {
+		if v, err := h.EnterCall(o, null(), nil); v != (api.Value{}) || err != api.ErrKind || h.Fuel() != 10 {
+			t.Errorf("EnterCall of %d: %v, %v, %d left", o, v, err, h.Fuel())
+		}
+		if n, err := h.EnterConstruct(o, nil, c); n != 0 || err != api.ErrKind || h.Fuel() != 10 {
+			t.Errorf("EnterConstruct of %d: %v, %v, %d left", o, n, err, h.Fuel())
+		}
+	}
+	if n, err := h.EnterConstruct(f, nil, c); n != 0 || err != api.ErrKind || h.Fuel() != 10 {
+		t.Errorf("EnterConstruct of %d: %v, %v, %d left", f, n, err, h.Fuel())
+	}
+}
+
+// What is entered so within a method is as deep as by the door.
+func TestEnteredWithin(t *testing.T) {
+	for _, depth := range []int{1, 2, 5} {
+		h, _ := heap.New(2, 100, depth)
+		calls := 0
+		f := addTo(h, func(d door, f int, this api.Value, args []api.Value) (api.Value, error) {
+			calls++
+			if calls%2 == 0 {
+				return d.(*heap.Heap).EnterCall(f, this, args)
+			}
+			n, err := d.(*heap.Heap).EnterConstruct(f, args, f)
+			return api.Value{Kind: api.KRef, Id: n}, err
+		}, true)
+		if _, err := h.EnterCall(f, null(), nil); err != api.ErrDepth || calls != depth || h.Fuel() != 100-depth-1 {
+			t.Errorf("depth %d: %v, %d calls, %d left", depth, err, calls, h.Fuel())
+		}
+	}
+}

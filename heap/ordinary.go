@@ -88,7 +88,7 @@ func (h *Heap) read(d api.Desc, receiver api.Value) (api.Value, error) {
 	if d.Get.Kind != api.KRef {
 		return value.Undefined(), nil
 	}
-	return h.enterCall(d.Get.Id, receiver, nil)
+	return h.EnterCall(d.Get.Id, receiver, nil)
 }
 
 // Set sets a property's value, on the receiver, or by a setter.
@@ -118,7 +118,7 @@ func (h *Heap) writeBy(setter, v, receiver api.Value) (bool, error) {
 	if setter.Kind != api.KRef {
 		return false, nil
 	}
-	if _, err := h.enterCall(setter.Id, receiver, []api.Value{v}); err != nil {
+	if _, err := h.EnterCall(setter.Id, receiver, []api.Value{v}); err != nil {
 		return false, err
 	}
 	return true, nil
