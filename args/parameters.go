@@ -51,7 +51,8 @@ func slot(h *heap.Heap, o int, name string) (*parameters, int, api.Errno) {
 func newParameters(l []api.Value, names []string) *parameters {
 	p := &parameters{places: map[string]int{}, ties: map[int]int{}}
 	for i, s := range names {
-		p.list[p.place(s)].last = i
+		n := p.place(s) // ahead of the list being read: it may be longer behind that
+		p.list[n].last = i
 	}
 	for n := range p.list {
 		p.begin(n, l)
