@@ -94,6 +94,7 @@ func changes(o int) []act {
 
 // A proxy without traps answers as its target does, whatever that is, and costs two more.
 func TestTargetsOfEveryClass(t *testing.T) {
+	t.Parallel()
 	for _, name := range classes() {
 		none := newWorld(t, 0).h
 		for i := range changes(0) {

@@ -1,11 +1,12 @@
 package proxy_test
 
-// The layer read a second time, by other means, as ECMA-262 has it (10.5): what throws or stops is a panic that the method picks up, descriptors are held against each other field by field, lists are searched from end to end; proxies are objects of the tests' own. None of the package's functions is used, nor those of records, desc and convert.
+// The layer read a second time, by other means, as ECMA-262 has it (10.5): what throws or stops is a panic that the method picks up, descriptors are held against each other field by field, lists are searched from end to end; proxies are objects of the tests' own. None of the package's functions is used, nor those of records and desc.
 
 import (
 	"strconv"
 
 	"cameo/api"
+	"cameo/convert"
 	"cameo/heap"
 )
 
@@ -432,21 +433,16 @@ func (exotic) Delete(h *heap.Heap, o int, k api.Key) (bool, error) {
 	})
 }
 
-// keyList is CreateListFromArrayLike of keys. What a length may come to in these tests is a number, or throws.
+// keyList is CreateListFromArrayLike of keys.
 func (s second) keyList(r api.Value) []api.Key {
 	throwIf(r.Kind != api.KRef)
-	length := must(s.h.Get(r.Id, str("length"), r))
-	throwIf(length.Kind == api.KSym)
-	n := 0
-	for n < 1025 && length.Kind == api.KNum && float64(n+1) <= length.Num {
-		n++
-	}
+	n := must(convert.Length(s.h, must(s.h.Get(r.Id, str("length"), r))))
 	if n > 1024 {
 		panic(api.ErrLong)
 	}
 	l := []api.Key{}
 	for i := range n {
-		v := must(s.h.Get(r.Id, str(strconv.Itoa(i)), r))
+		v := must(s.h.Get(r.Id, str(strconv.FormatInt(i, 10)), r))
 		throwIf(v.Kind != api.KStr && v.Kind != api.KSym)
 		k := api.Key{Str: v.Str}
 		if v.Kind == api.KSym {

@@ -30,24 +30,21 @@ func toSteps(fields ...string) []string {
 
 func flag(x api.Tri) api.Value { return api.Value{Kind: api.KBool, Bool: x == api.Yes} }
 
-// fields is a descriptor as an object has it, in another order than it is asked for.
+// fields is a descriptor as an object has it, in another order than it is asked for, and the names of these.
 func fields(d api.Desc) ([]api.Prop, []string) {
 	var l []api.Prop
-	for k, v := range map[string]api.Value{"value": d.Value, "get": d.Get, "set": d.Set} {
-		if v.Kind != api.KNone {
-			l = append(l, has(k, v))
-		}
-	}
-	for k, f := range map[string]api.Tri{"writable": d.Writable, "enumerable": d.Enumerable, "configurable": d.Configurable} {
-		if f != api.Absent {
-			l = append(l, has(k, flag(f)))
-		}
-	}
-	slices.SortFunc(l, func(a, b api.Prop) int { return len(a.Key.Str) - len(b.Key.Str) })
 	var names []string
-	for _, p := range l {
-		names = append(names, p.Key.Str)
+	add := func(k string, there bool, v api.Value) {
+		if there {
+			l, names = append(l, has(k, v)), append(names, k)
+		}
 	}
+	add("set", d.Set.Kind != api.KNone, d.Set)
+	add("configurable", d.Configurable != api.Absent, flag(d.Configurable))
+	add("value", d.Value.Kind != api.KNone, d.Value)
+	add("get", d.Get.Kind != api.KNone, d.Get)
+	add("enumerable", d.Enumerable != api.Absent, flag(d.Enumerable))
+	add("writable", d.Writable != api.Absent, flag(d.Writable))
 	return l, names
 }
 

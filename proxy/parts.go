@@ -18,18 +18,6 @@ func partsOf(h *heap.Heap, o int) (*parts, bool) {
 	return p, ok
 }
 
-// known is what a proxy has, or why there is nothing such.
-func known(h *heap.Heap, o int) (*parts, api.Errno) {
-	if _, e := h.Class(o); e != api.OK {
-		return nil, e
-	}
-	p, ok := partsOf(h, o)
-	if !ok {
-		return nil, api.ErrKind
-	}
-	return p, api.OK
-}
-
 // nameOf is a key as a trap is given it.
 func nameOf(k api.Key) api.Value {
 	v, _ := key.Value(k)
@@ -47,16 +35,3 @@ func anew(v api.Value) api.Value {
 	v.Str = strings.Clone(v.Str)
 	return v
 }
-
-func typeError() error { return &api.Thrown{Kind: api.XType} }
-
-// throwIf throws where something is wrong, unless there is no knowing, because it has thrown or stopped already.
-func throwIf(wrong bool, err error) error {
-	if err == nil && wrong {
-		return typeError()
-	}
-	return err
-}
-
-// done is true, unless something was thrown, or stopped.
-func done(err error) (bool, error) { return err == nil, err }

@@ -252,7 +252,7 @@ func TestRevokedWithin(t *testing.T) {
 func TestTrapNames(t *testing.T) {
 	l := thirteen()
 	for i, s := range proxy.Traps() {
-		if s != l[i].trap {
+		if s != l[i].trap || methods()[i] != l[i].act.name {
 			t.Errorf("19.12: %d: %s", i, s)
 		}
 	}
