@@ -391,13 +391,26 @@ func (x act) is(t *testing.T, h *heap.Heap, cost int, want any, wrong error) {
 	}
 }
 
+// changes is what differs between two moments.
+func changes(before, after []api.Shape) string {
+	s := ""
+	for i, x := range after {
+		if i >= len(before) {
+			s += fmt.Sprintf("%d is %v; ", i+1, x)
+		} else if !sameShape(before[i], x) {
+			s += fmt.Sprintf("%d: %v became %v; ", i+1, before[i], x)
+		}
+	}
+	return s
+}
+
 // stays is what is does, of an act that changes nothing.
 func (x act) stays(t *testing.T, h *heap.Heap, cost int, want any, wrong error) {
 	t.Helper()
 	before := now(h)
 	x.is(t, h, cost, want, wrong)
 	if after := now(h); !sameMoment(before, after) {
-		t.Errorf("%v: %v became %v", x, before, after)
+		t.Errorf("%v: %s", x, changes(before.shapes, after.shapes))
 	}
 }
 
@@ -407,7 +420,7 @@ func (x act) adds(t *testing.T, h *heap.Heap, cost int, want any, wrong error, m
 	before := h.Shapes()
 	x.is(t, h, cost, want, wrong)
 	if after := h.Shapes(); !sameShapes(after, append(before, made...)) {
-		t.Errorf("%v: %v became %v; want %v behind it", x, before, after, made)
+		t.Errorf("%v: %s; want %v behind what was there", x, changes(before, after), made)
 	}
 }
 

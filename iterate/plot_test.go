@@ -23,6 +23,7 @@ type plot struct {
 	stage    stage
 	turn     turn
 	second   turn
+	change   change
 	shapes   []api.Shape
 	pointers map[int]*pointer
 	given    map[int]int // how many answers a function has given
@@ -34,7 +35,7 @@ type plot struct {
 }
 
 func newPlot(c cast, s stage, n turn) *plot {
-	return &plot{cast: c, stage: s, fuel: s.fuel, turn: n, second: never(), shapes: slices.Clone(c.shapes), pointers: map[int]*pointer{}, given: map[int]int{}}
+	return &plot{cast: c, stage: s, fuel: s.fuel, turn: n, second: never(), change: change{line: -1}, shapes: slices.Clone(c.shapes), pointers: map[int]*pointer{}, given: map[int]int{}}
 }
 
 // ending ends what is played, unless it is attempted.
@@ -83,6 +84,9 @@ func (p *plot) step(deep, o int, line string) {
 		return
 	}
 	p.lines = append(p.lines, fmt.Sprintf("%d %s", o, line))
+	if len(p.lines)-1 == p.change.line {
+		p.change.of(p.shapes)
+	}
 	for _, n := range []turn{p.second, p.turn} {
 		if len(p.lines)-1 == n.line {
 			p.ends(n.err)
@@ -351,8 +355,9 @@ func (p *plot) names(v api.Value) (l []api.Key) {
 				continue
 			}
 			p.step(1, v.Id, "own "+nameOf(k))
-			met[k] = true
-			if d, _ := p.find(v.Id, k); d.Enumerable == api.Yes {
+			d, there := p.find(v.Id, k)
+			met[k] = there
+			if d.Enumerable == api.Yes {
 				l = append(l, k)
 			}
 		}
