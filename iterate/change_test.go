@@ -50,7 +50,7 @@ func (c change) of(l []api.Shape) {
 // changed plays acts, and changes something in the midst.
 func changed(t *testing.T, c cast, l []act, x change) {
 	t.Helper()
-	s := stage{240, 200, 200}
+	s := stage{120, 200, 200}
 	p := newPlot(c, s, never())
 	p.change = x
 	h, d := c.staged(t, s)
@@ -78,7 +78,7 @@ func changed(t *testing.T, c cast, l []act, x change) {
 // everywhere plays acts with each change behind each line: how many plays that is.
 func everywhere(t *testing.T, c cast, changes []change, l ...act) int {
 	t.Helper()
-	lines := len(comes(t, c, l, stage{240, 200, 200}, never()).lines)
+	lines := len(comes(t, c, l, stage{120, 200, 200}, never()).lines)
 	for n := range lines {
 		for _, x := range changes {
 			x.line = n

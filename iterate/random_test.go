@@ -35,7 +35,7 @@ func pick[T any](c *chance, l ...T) T { return l[c.Intn(len(l))] }
 
 func (c *chance) ref() api.Value { return ref(1 + c.Intn(c.objects)) }
 
-// keys is names, of which there are few, so that two are often the same.
+// key is one of a few, so that two are often the same.
 func (c *chance) key() api.Key {
 	switch c.Intn(12) {
 	case 0:
@@ -102,7 +102,6 @@ const (
 	mapped   = 8
 	buffer   = 9
 	typedA   = 10
-	stringA  = 12
 	module   = 13
 	bindA    = 14
 	guardA   = 17

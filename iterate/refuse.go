@@ -40,12 +40,12 @@ func callable(h *heap.Heap, f api.Value) api.Errno {
 
 func typeError() error { return &api.Thrown{Kind: api.XType} }
 
-// What is kept, and handed out.
+// What is handed out, and what is laid.
 
 // ref is an object as a value; beside an error there is no object, and no value.
 func ref(o int, err error) (api.Value, error) { return value.Ref(o), err }
 
-// anew is a value as it is kept, or handed out: its string is new memory.
+// anew is a value as it is handed out: its string is new memory.
 func anew(v api.Value) api.Value {
 	v.Str = strings.Clone(v.Str)
 	return v

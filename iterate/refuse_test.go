@@ -79,7 +79,7 @@ func (x act) refused(t *testing.T, h *heap.Heap, d *diary, want api.Errno) {
 	}
 }
 
-// bare stages: no fuel, some; no room, some.
+// stages is such with fuel and room, and without.
 func stages() []stage { return []stage{{0, 9, 0}, {100, 9, 0}, {0, 9, 5}, {100, 1, 5}} }
 
 func TestMakerRefuses(t *testing.T) {

@@ -255,7 +255,7 @@ func comes(t *testing.T, c cast, l []act, s stage, n turn) *plot {
 // holds plays acts in all ways: with as much as they need, with more, with less fuel, depth and room, and with each step ending otherwise, by some of the errors that there may be. What never ends is played as long as there is fuel.
 func holds(t *testing.T, c cast, errors []error, l ...act) *plot {
 	t.Helper()
-	const much = 240
+	const much = 120
 	whole := comes(t, c, l, stage{much, 200, 200}, never())
 	for more := range 2 {
 		comes(t, c, l, stage{whole.spent + more, max(whole.deepest, 1) + more, whole.made + more}, never())
