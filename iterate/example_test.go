@@ -39,15 +39,15 @@ func TestExample1(t *testing.T) {
 	ask("Get", a).adds(t, h, 5, api.Iterator{Object: first, Next: ref(1)}, nil, its)
 	x := steps(first, ref(1))
 	x.adds(t, h, 5, stepped{v: num(5)}, nil, result(num(5), no()))
-	array := func(n float64) {
+	resize := func(n float64) {
 		t.Helper()
 		if ok, err := h.Set(a.Id, str("length"), num(n), a); !ok || err != nil {
 			t.Fatal(ok, err)
 		}
 	}
-	array(1)
+	resize(1)
 	x.adds(t, h, 3, stepped{over: true}, nil, over())
-	array(3)
+	resize(3)
 	x.adds(t, h, 2, stepped{over: true}, nil, over()) // it has no object any more, whose length could be asked
 }
 
